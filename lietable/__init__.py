@@ -1,0 +1,1 @@
+"""Lietable: hands at a table, some of whom lie."""
